@@ -1,0 +1,1 @@
+"""Turnedrun: rows that can be run from behind."""
