@@ -2,7 +2,7 @@
 
 import unittest
 
-from rowcases import ADD, GOOD_ROWS, Q, R, RowsTest, Uneasy, program_of
+from cases import ADD, GOOD_ROWS, Q, R, RowsTest, Uneasy, program_of
 from turnedrun.errors import BadName, BadRow, TooDeep
 from turnedrun.rows import checked
 

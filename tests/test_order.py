@@ -2,7 +2,7 @@
 
 import unittest
 
-from rowcases import ADD, Q, R, RowsTest, program_of
+from cases import ADD, Q, R, RowsTest, program_of
 from turnedrun.errors import BadName, BadNumber, BadRow
 
 

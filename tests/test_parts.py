@@ -2,7 +2,7 @@
 
 import unittest
 
-from rowcases import (
+from cases import (
     ADD, BARRED, NO_LISTS, NO_NAMES, Q, QUESTION_SIGNS, R, SUM_SIGNS, RowsTest, Uneasy, program_of,
 )
 from turnedrun.errors import BadName, BadNumber, BadRow, OwnBox

@@ -2,7 +2,7 @@
 
 import unittest
 
-from rowcases import ADD, GOOD_ROWS, NO_LISTS, NO_NAMES, Q, QUESTION_SIGNS, R, SUM_SIGNS, RowsTest, Uneasy, program_of
+from cases import ADD, GOOD_ROWS, NO_LISTS, NO_NAMES, Q, QUESTION_SIGNS, R, SUM_SIGNS, RowsTest, Uneasy, program_of
 from turnedrun.errors import BadName, BadProgram
 from turnedrun.rows import checked
 

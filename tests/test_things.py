@@ -2,22 +2,10 @@
 
 import unittest
 
+from cases import BARRED, Uneasy
 from turnedrun.things import asked, is_name, is_number, reckoned
 
-BARRED = ("block", "if", "else", "fi", "from", "loop", "until", "call", "undo", "push", "pull")
 OTHER_KINDS = (None, [], ["a"], (), ("a",), {}, {"a": 1}, b"", b"a", {"a"}, 1.0, 0.5, object(), str, int, len)
-
-
-class Uneasy:
-    """A thing that can be neither compared nor hashed nor asked for its truth."""
-
-    __hash__ = None
-
-    def __eq__(self, other):
-        raise AssertionError("compared")
-
-    def __bool__(self):
-        raise AssertionError("asked for its truth")
 
 
 class IsNameTest(unittest.TestCase):

@@ -1,4 +1,4 @@
-"""What the tests of turnedrun.rows share: sample parts, and how a refusal is looked at."""
+"""What the tests share: sample parts, and how a refusal is looked at."""
 
 import unittest
 
@@ -54,6 +54,8 @@ def same(thing, other):
 
 
 class RowsTest(unittest.TestCase):
+    """Ways to ask checked for a number or a refusal; each one looks whether what is handed in stays as it was."""
+
     def assert_refused(self, program, kind, place):
         kept = copied(program)
         with self.subTest(program=program, kind=kind.__name__):
